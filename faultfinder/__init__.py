@@ -1,0 +1,1 @@
+"""Which part of a circuit is broken."""

@@ -1,0 +1,173 @@
+"""Which part of a circuit is broken: the calls on one circuit, and what they answer."""
+
+BEGIN = 0
+GATE = 1
+TEST = 2
+SEEN = 3
+EXPLAINS = 4
+
+# How many numbers are handed over with each call, by the call's number.
+HANDED_OVER = (1, 3, 1, 3, 1)
+
+NOT_THERE = -2
+BUSY = -16
+MEASURED_ALREADY = -17
+NOT_VALID = -22
+FULL = -28
+
+MOST_INPUTS = 4
+MOST_GATES = 8
+MOST_TESTS = 6
+
+# What a gate of each kind gives when none, one or both of its wires are 1:
+# no kind tells its two wires apart, so counting the ones is enough.
+GIVES = (
+    (0, 0, 1),
+    (0, 1, 1),
+    (0, 1, 0),
+    (1, 1, 0),
+    (1, 0, 0),
+)
+
+
+class Gate:
+    """A gate's kind and the two wires that it takes."""
+
+    def __init__(self, kind, a, b):
+        self.kind = kind
+        self.a = a
+        self.b = b
+
+    def should_give(self, wires):
+        return GIVES[self.kind][wires[self.a] + wires[self.b]]
+
+
+class Way:
+    """One way that a test may have been: the set of gates that gave the wrong value, and what each gate gave."""
+
+    def __init__(self, wrong, gave):
+        self.wrong = wrong
+        self.gave = gave
+
+    def needs_only(self, broken):
+        return self.wrong | broken == broken
+
+
+class Test:
+    """A test: the gates measured in it, and the ways it may have been by what was measured so far."""
+
+    def __init__(self, ways):
+        self.ways = ways
+        self.measured = {}
+
+    def measure(self, gate, value):
+        self.measured[gate] = True
+        self.ways = [way for way in self.ways if way.gave[gate] == value]
+
+    def ways_with(self, broken):
+        return [way for way in self.ways if way.needs_only(broken)]
+
+
+class Circuit:
+    """The object that a list of calls speaks to."""
+
+    def __init__(self):
+        self.inputs = 0
+        self.gates = []
+        self.tests = []
+
+    def begin(self, inputs):
+        if inputs < 1 or inputs > MOST_INPUTS:
+            return NOT_VALID
+        self.inputs = inputs
+        self.gates = []
+        self.tests = []
+        return 0
+
+    def gate(self, kind, a, b):
+        wires = self.inputs + len(self.gates)
+        if kind >= len(GIVES) or a >= wires or b >= wires:
+            return NOT_VALID
+        if len(self.tests) > 0:
+            return BUSY
+        if len(self.gates) == MOST_GATES:
+            return FULL
+        self.gates.append(Gate(kind, a, b))
+        return len(self.gates) - 1
+
+    def test(self, inputs):
+        if has_bit_from(inputs, self.inputs):
+            return NOT_VALID
+        if len(self.tests) == MOST_TESTS:
+            return FULL
+        self.tests.append(Test(self.all_ways(inputs)))
+        return len(self.tests) - 1
+
+    def seen(self, t, w, v):
+        if t >= len(self.tests):
+            return NOT_THERE
+        if w >= len(self.gates) or v > 1:
+            return NOT_VALID
+        if w in self.tests[t].measured:
+            return MEASURED_ALREADY
+        self.tests[t].measure(w, v)
+        return 0
+
+    def explains(self, broken):
+        if has_bit_from(broken, len(self.gates)):
+            return NOT_VALID
+        return 1 if self.explains_all(broken) else 0
+
+    def explains_all(self, broken):
+        for test in self.tests:
+            if len(test.ways_with(broken)) == 0:
+                return False
+        return True
+
+    def all_ways(self, inputs):
+        # With the inputs told, which gates are wrong settles every wire: so
+        # there is just one way for each set of gates, and none is left out.
+        # No gate comes once there is a test, so the ways stay the same.
+        return [self.way(inputs, wrong) for wrong in range(1 << len(self.gates))]
+
+    def way(self, inputs, wrong):
+        wires = [bit_of(inputs, k) for k in range(self.inputs)]
+        for k, gate in enumerate(self.gates):
+            wires.append(gate.should_give(wires) ^ bit_of(wrong, k))
+        return Way(wrong, wires[self.inputs:])
+
+
+def bit_of(bits, k):
+    return bits >> k & 1
+
+
+def has_bit_from(bits, k):
+    return bits >> k > 0
+
+
+def answer(circuit, call, numbers):
+    """All numbers that one call answers."""
+    if call == BEGIN:
+        return [circuit.begin(numbers[0])]
+    if call == GATE:
+        return [circuit.gate(numbers[0], numbers[1], numbers[2])]
+    if call == TEST:
+        return [circuit.test(numbers[0])]
+    if call == SEEN:
+        return [circuit.seen(numbers[0], numbers[1], numbers[2])]
+    return [circuit.explains(numbers[0])]
+
+
+def answers(calls):
+    """For each call, in order, how many numbers are answered, and these."""
+    circuit = Circuit()
+    given_back = []
+    at = 0
+    while at < len(calls):
+        call = calls[at]
+        end = at + 1 + HANDED_OVER[call]
+        answered = answer(circuit, call, calls[at + 1:end])
+        given_back.append(len(answered))
+        given_back.extend(answered)
+        at = end
+    return given_back
