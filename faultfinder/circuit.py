@@ -5,15 +5,22 @@ GATE = 1
 TEST = 2
 SEEN = 3
 EXPLAINS = 4
+LEAST = 5
+SUSPECTS = 6
+SURE = 7
+MAY = 8
+NEXT = 9
 
 # How many numbers are handed over with each call, by the call's number.
-HANDED_OVER = (1, 3, 1, 3, 1)
+HANDED_OVER = (1, 3, 1, 3, 1, 0, 0, 0, 3, 1)
 
 NOT_THERE = -2
+ALL_MEASURED = -6
 BUSY = -16
 MEASURED_ALREADY = -17
 NOT_VALID = -22
 FULL = -28
+NO_WAY = -61
 
 MOST_INPUTS = 4
 MOST_GATES = 8
@@ -49,9 +56,6 @@ class Way:
         self.wrong = wrong
         self.gave = gave
 
-    def needs_only(self, broken):
-        return self.wrong | broken == broken
-
 
 class Test:
     """A test: the gates measured in it, and the ways it may have been by what was measured so far."""
@@ -65,7 +69,10 @@ class Test:
         self.ways = [way for way in self.ways if way.gave[gate] == value]
 
     def ways_with(self, broken):
-        return [way for way in self.ways if way.needs_only(broken)]
+        return [way for way in self.ways if way.wrong | broken == broken]
+
+    def unmeasured_of(self, gates):
+        return [w for w in range(gates) if w not in self.measured]
 
 
 class Circuit:
@@ -124,6 +131,61 @@ class Circuit:
                 return False
         return True
 
+    def least(self):
+        return least_of(self.explaining())
+
+    def suspects(self):
+        explaining = self.explaining()
+        every = len(explaining) - 1
+        return least_of([not explaining[every ^ suspected] for suspected in range(len(explaining))])
+
+    def sure(self):
+        every = (1 << len(self.gates)) - 1
+        in_all = every
+        in_some = 0
+        for broken in self.least():
+            in_all = in_all & broken
+            in_some = in_some | broken
+        return [0, in_all, every ^ in_some]
+
+    def may(self, broken, t, w):
+        if t >= len(self.tests):
+            return NOT_THERE
+        if has_bit_from(broken, len(self.gates)) or w >= len(self.gates):
+            return NOT_VALID
+        ways = self.tests[t].ways_with(broken)
+        if len(ways) == 0:
+            return NO_WAY
+        return could_give(ways, w)
+
+    def measure_next(self, t):
+        if t >= len(self.tests):
+            return [NOT_THERE]
+        unmeasured = self.tests[t].unmeasured_of(len(self.gates))
+        if len(unmeasured) == 0:
+            return [ALL_MEASURED]
+        # Measuring changes no other test, so a least explanation still
+        # explains it all if one of its ways in this test is left.
+        ways_of_each = [self.tests[t].ways_with(broken) for broken in self.least()]
+        # Of like ones min takes the first, and these stand in the gates' order.
+        return min([[w] + counts_left(ways_of_each, w) for w in unmeasured], key=greater_count)
+
+    def explaining(self):
+        """For each set of gates, whether it explains it all."""
+        # All sets at once: to ask the ways for each set by itself takes long.
+        sets = 1 << len(self.gates)
+        explained = [0] * sets
+        for t, test in enumerate(self.tests):
+            for way in test.ways:
+                explained[way.wrong] = explained[way.wrong] | 1 << t
+        # More broken explain more. A set's parts are lesser numbers, so what
+        # they explain is told in full when the set's turn comes.
+        for broken in range(sets):
+            for part in parts_lacking_one(broken):
+                explained[broken] = explained[broken] | explained[part]
+        every_test = (1 << len(self.tests)) - 1
+        return [tests == every_test for tests in explained]
+
     def all_ways(self, inputs):
         # With the inputs told, which gates are wrong settles every wire: so
         # there is just one way for each set of gates, and none is left out.
@@ -145,6 +207,52 @@ def has_bit_from(bits, k):
     return bits >> k > 0
 
 
+def gates_of(bits):
+    return [k for k in range(MOST_GATES) if bit_of(bits, k)]
+
+
+def parts_lacking_one(bits):
+    return [bits ^ 1 << k for k in gates_of(bits)]
+
+
+def how_many_gates(bits):
+    return len(gates_of(bits))
+
+
+def least_of(fitting):
+    """The sets that fit and of which no part does that lacks some gate, in the order in which sets are told."""
+    # Where a set fits, so does each with more gates: so it is enough to ask
+    # the parts that lack just one.
+    least = []
+    for bits, fits in enumerate(fitting):
+        if fits and not any([fitting[part] for part in parts_lacking_one(bits)]):
+            least.append(bits)
+    # Like ones keep their order, the lesser number first.
+    return sorted(least, key=how_many_gates)
+
+
+def could_give(ways, w):
+    """Bit v tells whether gate w gave v in one of the ways."""
+    values = 0
+    for way in ways:
+        values = values | 1 << way.gave[w]
+    return values
+
+
+def counts_left(ways_of_each, w):
+    """Of how many explanations, told by their ways, some way is left if gate w's wire is 0, and if 1."""
+    could = [could_give(ways, w) for ways in ways_of_each]
+    return [sum([bit_of(values, v) for values in could]) for v in range(2)]
+
+
+def greater_count(found):
+    return max(found[1], found[2])
+
+
+def counted(numbers):
+    return [len(numbers)] + numbers
+
+
 def answer(circuit, call, numbers):
     """All numbers that one call answers."""
     if call == BEGIN:
@@ -155,7 +263,17 @@ def answer(circuit, call, numbers):
         return [circuit.test(numbers[0])]
     if call == SEEN:
         return [circuit.seen(numbers[0], numbers[1], numbers[2])]
-    return [circuit.explains(numbers[0])]
+    if call == EXPLAINS:
+        return [circuit.explains(numbers[0])]
+    if call == LEAST:
+        return counted(circuit.least())
+    if call == SUSPECTS:
+        return counted(circuit.suspects())
+    if call == SURE:
+        return circuit.sure()
+    if call == MAY:
+        return [circuit.may(numbers[0], numbers[1], numbers[2])]
+    return circuit.measure_next(numbers[0])
 
 
 def answers(calls):

@@ -8,16 +8,22 @@ import unittest
 from pathlib import Path
 
 from faultfinder.circuit import answers
-from tests.helper import AND, NEITHER, OR, TOP, begin, explains, gate, joined, seen, test
+from tests.helper import (AND, NEITHER, OR, TOP, begin, explains, gate, joined, least, may, measure_next, seen, sure,
+                          suspects, test)
 
 TOP_FOLDER = Path(__file__).resolve().parent.parent
 
 SESSION = joined([
     begin(9), begin(2), gate(AND, 0, 1), gate(NEITHER, 2, 2), gate(5, 0, 0), test(3), seen(0, 1, 1), seen(0, 1, 0),
-    seen(3, 0, 0), explains(0), explains(1), explains(2), explains(4),
+    seen(3, 0, 0), explains(0), explains(1), explains(2), explains(4), least(), suspects(), sure(), may(1, 0, 0),
+    may(0, 0, 0), may(1, 1, 0), may(4, 0, 0), measure_next(0), measure_next(1), seen(0, 0, 1), measure_next(0), least(),
+    suspects(), sure(),
 ])
-GIVEN_BACK = [1, -22, 1, 0, 1, 0, 1, 1, 1, -22, 1, 0, 1, 0, 1, -17, 1, -2, 1, 0, 1, 1, 1, 1, 1, -22]
-OTHER = joined([begin(4), gate(OR, 0, 3), test(0), seen(0, 0, 1), explains(0), explains(1)])
+GIVEN_BACK = [
+    1, -22, 1, 0, 1, 0, 1, 1, 1, -22, 1, 0, 1, 0, 1, -17, 1, -2, 1, 0, 1, 1, 1, 1, 1, -22, 3, 2, 1, 2, 2, 1, 3, 3, 0, 0, 0,
+    1, 1, 1, -61, 1, -2, 1, -22, 3, 0, 1, 1, 1, -2, 1, 0, 1, -6, 2, 1, 2, 2, 1, 2, 3, 0, 2, 1,
+]
+OTHER = joined([begin(4), gate(OR, 0, 3), test(0), seen(0, 0, 1), explains(0), explains(1), least(), measure_next(0)])
 
 
 class GivenBack(unittest.TestCase):
@@ -28,6 +34,13 @@ class GivenBack(unittest.TestCase):
         self.assertEqual(
             answers([0, 1, 1, 0, 0, 0, 2, 1, 3, 0, 0, 0, 4, 0, 4, 1]), [1, 0, 1, 0, 1, 0, 1, 0, 1, 0, 1, 1]
         )
+        self.assertEqual(
+            answers([0, 1, 1, 0, 0, 0, 2, 1, 9, 0, 3, 0, 0, 0, 5, 6, 7, 8, 1, 0, 0, 9, 0]),
+            [1, 0, 1, 0, 1, 0, 3, 0, 0, 1, 1, 0, 2, 1, 1, 2, 1, 1, 3, 0, 1, 0, 1, 1, 1, -6],
+        )
+
+    def test_no_least_suspect_is_how_many_alone(self):
+        self.assertEqual(answers([0, 1, 5, 6, 7]), [1, 0, 2, 1, 0, 1, 0, 3, 0, 0, 0])
 
     def test_one_call_alone(self):
         self.assertEqual(answers([0, 0]), [1, -22])

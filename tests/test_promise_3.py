@@ -4,8 +4,9 @@ import random
 import unittest
 from itertools import product
 
-from tests.helper import (AND, NOT_BOTH, ONE_ALONE, OR, SHOULD, TOP, Plain, ask, begin, explains, gate, last,
-                          plainly_explains, seen, test)
+from tests.helper import (AND, NOT_BOTH, ONE_ALONE, OR, SHOULD, TOP, ask, begin, explains, gate, last,
+                          plainly_explains, seen, some_circuits, some_gates, some_tests, test, told,
+                          two_gate_circuits)
 
 
 def all_sets(gates):
@@ -14,26 +15,12 @@ def all_sets(gates):
 
 def asked_sets(inputs, gates, tests):
     """For each set, what explains answers, with these gates and tests (their inputs, what was measured by gate)."""
-    calls = [begin(inputs)]
-    calls += [gate(*told) for told in gates]
-    calls += [test(told) for told, measured in tests]
-    calls += [seen(t, w, v) for t, (told, measured) in enumerate(tests) for w, v in measured.items()]
+    calls = told(inputs, gates, tests)
     return ask(*calls, *all_sets(len(gates)))[len(calls):]
 
 
 def plain_sets(inputs, gates, tests):
     return [int(plainly_explains(inputs, gates, tests, broken)) for broken in range(2 ** len(gates))]
-
-
-def some_gates(chance, inputs, many):
-    return [(chance.randrange(5), chance.randrange(inputs + k), chance.randrange(inputs + k)) for k in range(many)]
-
-
-def some_tests(chance, inputs, gates, many, odds):
-    return [
-        (chance.randrange(2 ** inputs), {w: chance.randrange(2) for w in range(gates) if chance.random() < odds})
-        for t in range(many)
-    ]
 
 
 class Refused(unittest.TestCase):
@@ -147,11 +134,11 @@ class WhatHolds(unittest.TestCase):
         for inputs in (1, 2, 3, 4):
             gates = some_gates(chance, inputs, 8)
             tests = []
-            for told in range(min(6, 2 ** inputs)):
-                wires = [told >> k & 1 for k in range(inputs)]
+            for bits in range(min(6, 2 ** inputs)):
+                wires = [bits >> k & 1 for k in range(inputs)]
                 for kind, a, b in gates:
                     wires.append(SHOULD[kind][wires[a], wires[b]])
-                tests.append((told, {w: wires[inputs + w] for w in range(8)}))
+                tests.append((bits, {w: wires[inputs + w] for w in range(8)}))
             with self.subTest(inputs=inputs, gates=gates):
                 self.assertEqual(asked_sets(inputs, gates, tests), [1] * 256)
 
@@ -168,7 +155,7 @@ class WhatHolds(unittest.TestCase):
         fewer = 0
         for again in range(15):
             inputs = chance.randint(1, 4)
-            calls = [begin(inputs)] + [gate(*told) for told in some_gates(chance, inputs, 5)]
+            calls = [begin(inputs)] + [gate(*one) for one in some_gates(chance, inputs, 5)]
             calls += [test(chance.randrange(2 ** inputs)) for t in range(2)]
             before = [1] * 32
             for t, w in chance.sample(list(product(range(2), range(5))), 10):
@@ -182,21 +169,12 @@ class WhatHolds(unittest.TestCase):
 
 class AgainstPlainTrying(unittest.TestCase):
     def test_all_circuits_of_two_gates_on_one_input(self):
-        pairs = product(range(5), range(5), (0, 1), (0, 1))
-        measures = [{}, {0: 0}, {0: 1}, {1: 0}, {1: 1}, {0: 0, 1: 0}, {0: 0, 1: 1}, {0: 1, 1: 0}, {0: 1, 1: 1}]
-        for kind, later, a, b in pairs:
-            gates = [(kind, 0, 0), (later, a, b)]
-            for told, measured in product((0, 1), measures):
-                tests = [(told, measured)]
-                self.assertEqual(asked_sets(1, gates, tests), plain_sets(1, gates, tests), (gates, tests))
+        for circuit in two_gate_circuits():
+            self.assertEqual(asked_sets(*circuit), plain_sets(*circuit), circuit)
 
     def test_some_small_circuits(self):
-        chance = random.Random(7)
-        for again in range(250):
-            inputs, many = chance.randint(1, 4), chance.randint(1, 4)
-            gates = some_gates(chance, inputs, many)
-            tests = some_tests(chance, inputs, many, chance.randint(1, 3), chance.choice((0.3, 0.6, 1)))
-            self.assertEqual(asked_sets(inputs, gates, tests), plain_sets(inputs, gates, tests), (gates, tests))
+        for circuit in some_circuits(random.Random(7), 250, (1, 4), (1, 3), (0.3, 0.6, 1)):
+            self.assertEqual(asked_sets(*circuit), plain_sets(*circuit), circuit)
 
     def test_some_circuits_of_eight_gates(self):
         chance = random.Random(8)
@@ -204,37 +182,3 @@ class AgainstPlainTrying(unittest.TestCase):
             gates = some_gates(chance, inputs, 8)
             tests = some_tests(chance, inputs, 8, 2, 0.5)
             self.assertEqual(asked_sets(inputs, gates, tests), plain_sets(inputs, gates, tests), (gates, tests))
-
-
-class AnyCalls(unittest.TestCase):
-    """Long lists of any calls, refused ones among them, against the document's words."""
-
-    def some_call(self, chance):
-        def number(below):
-            return chance.choice((chance.randrange(below), chance.randrange(below), chance.randrange(below), below, TOP))
-
-        call = chance.choice((0, 1, 1, 1, 1, 2, 2, 3, 3, 3, 3, 4, 4, 4))
-        if call == 0:
-            # Begun anew too often, no circuit grows.
-            return begin(chance.randint(1, 2)) if chance.random() < 0.1 else begin(chance.choice((0, 5, TOP)))
-        if call == 1:
-            return gate(number(5), chance.randrange(5), chance.randrange(5))
-        if call == 2:
-            return test(number(4) if chance.random() < 0.4 else TOP)
-        if call == 3:
-            return seen(chance.randrange(4), chance.randrange(5), number(2))
-        return explains(number(32))
-
-    def test_any_calls(self):
-        chance = random.Random(9)
-        met = {}
-        for again in range(60):
-            calls = [begin(chance.choice((0, 5)))] * chance.randrange(3) + [begin(chance.randint(1, 4))]
-            calls += [self.some_call(chance) for k in range(80)]
-            plain = Plain()
-            expected = [plain.answer(call) for call in calls]
-            self.assertEqual(ask(*calls), expected)
-            met.update({(call[0], answer): True for call, answer in zip(calls, expected)})
-        for pair in [(0, 0), (0, -22), (1, -22), (1, -16), (2, -22), (3, 0), (3, -2), (3, -22), (3, -17), (4, 0), (4, 1),
-                     (4, -22)]:
-            self.assertIn(pair, met)
